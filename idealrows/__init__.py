@@ -1,0 +1,1 @@
+"""Ideals of rings of whole algebraic numbers, each told by its rows."""

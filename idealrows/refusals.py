@@ -1,0 +1,12 @@
+"""Refusals: each is told as one number below 0, alone."""
+
+WRONG_NUMBERS = 1
+NO_SUCH_IDEAL = 2
+CAN_BE_PARTED = 3
+ALL_ZERO = 3
+NO_ROOM = 5
+NORM_TOO_GREAT = 8
+
+
+def refusal(reason):
+    return [-reason]
