@@ -1,7 +1,7 @@
 """A ring and those of its ideals that are kept."""
 
 from idealrows.ideals import norm_of
-from idealrows.refusals import NORM_TOO_GREAT, NO_ROOM, refusal
+from idealrows.refusals import NONE_LEFT, NORM_TOO_GREAT, NO_ROOM, refusal
 
 MOST_IDEALS = 8
 GREATEST_NORM = 1000000000000
@@ -26,3 +26,9 @@ class Holding:
             return refusal(NORM_TOO_GREAT)
         self.ideals.append(rows)
         return [len(self.ideals) - 1]
+
+    def drop_last(self):
+        if not self.ideals:
+            return refusal(NONE_LEFT)
+        self.ideals.pop()
+        return [len(self.ideals)]

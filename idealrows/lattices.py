@@ -35,6 +35,27 @@ def lessened(row, place, rows):
     return row
 
 
+# What's left is 0 just for the sums of the rows; behind the last row's own place the number must have 0.
+def is_sum_of(rows, number):
+    return not any(lessened(number, len(rows), rows))
+
+
+def own_numbers(rows):
+    return [row[place] for place, row in enumerate(rows)]
+
+
+# All numbers that have at each place 0 or more, and less than the limit there; the lesser ones first.
+# Below what rows have at their own places there's just one of each class.
+def numbers_below(limits):
+    numbers = [[]]
+    for limit in limits:
+        longer = []
+        for number in numbers:
+            longer.extend([number + [place] for place in range(limit)])
+        numbers = longer
+    return numbers
+
+
 # The vectors must span all places, as those of an ideal that isn't 0 do.
 def rows_of(vectors, width):
     steps = []

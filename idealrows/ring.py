@@ -1,17 +1,31 @@
 """Calls on a ring and its ideals, read from one flat list and answered in another."""
 
 from idealrows.holding import Holding
-from idealrows.ideals import by, common, ideal_made_of, product, sum_of
+from idealrows.ideals import by, common, has, holds, ideal_made_of, is_made_of, is_prime, norm_of, product, sum_of
+from idealrows.of_norm import ideals_of_norm
 from idealrows.polynomials import can_be_parted
 from idealrows.reader import Reader
-from idealrows.refusals import ALL_ZERO, CAN_BE_PARTED, NO_SUCH_IDEAL, WRONG_NUMBERS, refusal
+from idealrows.refusals import ALL_ZERO, CAN_BE_PARTED, NO_SUCH_IDEAL, TOO_MANY_CLASSES, WRONG_NUMBERS, refusal
 
 GREATEST_COEFFICIENT = 20
 GREATEST_PLACE = 100
+MOST_CLASSES = 200
+GREATEST_NORM_LISTED = 30
 
 
 def all_within(numbers, greatest):
     return all([abs(number) <= greatest for number in numbers])
+
+
+def in_one_list(rows):
+    numbers = []
+    for row in rows:
+        numbers.extend(row)
+    return numbers
+
+
+def yes_or_no(is_so):
+    return [1] if is_so else [0]
 
 
 def answer_ring(holding, reader):
@@ -63,10 +77,64 @@ def answer_told(holding, reader):
     i = reader.take_number()
     if not holding.has_ideal(i):
         return refusal(NO_SUCH_IDEAL)
-    answer = [0]
-    for row in holding.ideals[i]:
-        answer.extend(row)
+    return [0] + in_one_list(holding.ideals[i])
+
+
+def answer_norm(holding, reader):
+    i = reader.take_number()
+    if not holding.has_ideal(i):
+        return refusal(NO_SUCH_IDEAL)
+    return [0, norm_of(holding.ideals[i])]
+
+
+def answer_of_number(holding, reader, is_so):
+    i = reader.take_number()
+    places = reader.take_list()
+    if not holding.has_ideal(i):
+        return refusal(NO_SUCH_IDEAL)
+    if len(places) != len(holding.coefficients) or not all_within(places, GREATEST_PLACE):
+        return refusal(WRONG_NUMBERS)
+    return yes_or_no(is_so(holding.coefficients, holding.ideals[i], places))
+
+
+def answer_has(holding, reader):
+    return answer_of_number(holding, reader, has)
+
+
+def answer_made(holding, reader):
+    return answer_of_number(holding, reader, is_made_of)
+
+
+def answer_holds(holding, reader):
+    i = reader.take_number()
+    j = reader.take_number()
+    if not holding.has_ideal(i) or not holding.has_ideal(j):
+        return refusal(NO_SUCH_IDEAL)
+    return yes_or_no(holds(holding.ideals[i], holding.ideals[j]))
+
+
+def answer_prime(holding, reader):
+    i = reader.take_number()
+    if not holding.has_ideal(i):
+        return refusal(NO_SUCH_IDEAL)
+    if norm_of(holding.ideals[i]) > MOST_CLASSES:
+        return refusal(TOO_MANY_CLASSES)
+    return yes_or_no(is_prime(holding.coefficients, holding.ideals[i]))
+
+
+def answer_all_of_norm(holding, reader):
+    norm = reader.take_number()
+    if not 1 <= norm <= GREATEST_NORM_LISTED:
+        return refusal(WRONG_NUMBERS)
+    ideals = ideals_of_norm(holding.coefficients, norm)
+    answer = [len(ideals)]
+    for rows in ideals:
+        answer.extend(in_one_list(rows))
     return answer
+
+
+def answer_drop(holding, reader):
+    return holding.drop_last()
 
 
 # A call's number is its index here.
@@ -78,6 +146,13 @@ ANSWERERS = (
     answer_common,
     answer_by,
     answer_told,
+    answer_norm,
+    answer_has,
+    answer_made,
+    answer_holds,
+    answer_prime,
+    answer_all_of_norm,
+    answer_drop,
 )
 
 

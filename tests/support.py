@@ -34,6 +34,34 @@ def told(i):
     return [6, i]
 
 
+def norm(i):
+    return [7, i]
+
+
+def has(i, *places):
+    return [8, i, len(places), *places]
+
+
+def made(i, *places):
+    return [9, i, len(places), *places]
+
+
+def holds(i, j):
+    return [10, i, j]
+
+
+def prime(i):
+    return [11, i]
+
+
+def all_of_norm(m):
+    return [12, m]
+
+
+def drop():
+    return [13]
+
+
 def answered(*calls):
     """The answers to the calls, one list of numbers for each."""
     if len(calls) > MOST_CALLS:
@@ -56,13 +84,36 @@ def last(*calls):
     return answered(*calls)[-1]
 
 
+def making(rows):
+    """The calls that make the ideal of these rows where there are none, and its number."""
+    if len(rows) < 4:
+        return [ideal(*joined(rows))], 0
+    return [ideal(*joined(rows[:2])), ideal(*joined(rows[2:])), sum_of(0, 1)], 2
+
+
+def joined(rows):
+    return [number for row in rows for number in row]
+
+
 def rows_in(answer, width):
     """The rows of an answer of told."""
     if answer[0] != 0 or len(answer) != 1 + width * width:
         raise ValueError("no rows: " + repr(answer))
-    return [answer[1 + width * i:1 + width * (i + 1)] for i in range(width)]
+    return rows_from(answer[1:], width)
+
+
+def ideals_in(answer, width):
+    """The rows of each ideal that all_of_norm answers."""
+    if len(answer) != 1 + answer[0] * width * width:
+        raise ValueError("not as many rows as it says: " + repr(answer))
+    rows = rows_from(answer[1:], width)
+    return [rows[start:start + width] for start in range(0, len(rows), width)]
+
+
+def rows_from(numbers, width):
+    return [numbers[start:start + width] for start in range(0, len(numbers), width)]
 
 
 def flat_rows(*rows):
     """What told answers for these rows."""
-    return [0] + [number for row in rows for number in row]
+    return [0] + joined(rows)

@@ -4,6 +4,7 @@ import random
 import unittest
 
 from tests import oracle
+from tests.oracle import exact_times, is_ideal, is_sum_of_rows, norm_by_rows
 from tests.support import (MOST, answered, by, common, flat_rows, ideal, last, product, ring, rows_in, sum_of,
                            told)
 
@@ -17,13 +18,6 @@ OF_TWO = (sum_of, product, common, by)
 TWO = ideal(2, 0, 1, 1)
 THREE = ideal(3, 0, 1, 1)
 OTHER_THREE = ideal(3, 0, 1, -1)
-
-
-def norm_of(rows):
-    norm = 1
-    for place, row in enumerate(rows):
-        norm *= row[place]
-    return norm
 
 
 class WorkedTest(unittest.TestCase):
@@ -117,48 +111,34 @@ class AgainstTheWordsTest(unittest.TestCase):
 
 
 class LargeTest(unittest.TestCase):
-    def has(self, rows, number):
-        number = list(number)
-        for place in range(len(rows) - 1, -1, -1):
-            factor, rest = divmod(number[place], rows[place][place])
-            if rest != 0:
-                return False
-            number = [a - factor * b for a, b in zip(number, rows[place])]
-        return True
-
-    def exact_times(self, coefficients, one, other):
-        m = 10 ** 60
-        return [a if a < m // 2 else a - m for a in oracle.times(coefficients, one, other, m)]
-
     def check_rows(self, coefficients, rows):
         """They are in the form that rows have, and an ideal's."""
         for i, row in enumerate(rows):
             self.assertTrue(row[i] > 0 and not any(row[i + 1:]))
             self.assertTrue(all(0 <= row[j] < rows[j][j] for j in range(i)))
-            shifted = self.exact_times(coefficients, row, [0, 1] + [0] * (len(rows) - 2))
-            self.assertTrue(self.has(rows, shifted))
+        self.assertTrue(is_ideal(coefficients, rows))
 
     def check_pair(self, coefficients, one, other, found):
         total, both, quotient = found
         for rows in found:
             self.check_rows(coefficients, rows)
         for row in one + other:
-            self.assertTrue(self.has(total, row))
+            self.assertTrue(is_sum_of_rows(total, row))
         for row in both:
-            self.assertTrue(self.has(one, row) and self.has(other, row))
+            self.assertTrue(is_sum_of_rows(one, row) and is_sum_of_rows(other, row))
         # The classes of the one in the sum are as many as those of what's common in the other.
-        self.assertEqual(norm_of(total) * norm_of(both), norm_of(one) * norm_of(other))
+        self.assertEqual(norm_by_rows(total) * norm_by_rows(both), norm_by_rows(one) * norm_by_rows(other))
         for row in quotient:
-            self.assertTrue(all(self.has(one, self.exact_times(coefficients, row, factor)) for factor in other))
+            self.assertTrue(all(is_sum_of_rows(one, exact_times(coefficients, row, factor)) for factor in other))
         # The other is made of one number: times that, the quotient is just what's common.
-        self.assertEqual(norm_of(quotient) * norm_of(other), norm_of(both))
+        self.assertEqual(norm_by_rows(quotient) * norm_by_rows(other), norm_by_rows(both))
 
     def pair_of_numbers(self, choices, coefficients):
         """Both are multiples of one, so that the ideals have more in common than their product."""
         while True:
             shared = [choices.randint(-1, 1) for _ in coefficients]
             factors = [[choices.randint(-4, 4) for _ in coefficients] for _ in range(2)]
-            pair = [self.exact_times(coefficients, shared, factor) for factor in factors]
+            pair = [exact_times(coefficients, shared, factor) for factor in factors]
             if all(0 < max(map(abs, number)) <= 100 for number in pair):
                 return pair
 
@@ -188,7 +168,7 @@ class LargeTest(unittest.TestCase):
             checked = 0
             while checked < 10:
                 one, other = [[choices.randint(-5, 5) for _ in coefficients] for _ in range(2)]
-                whole = self.exact_times(coefficients, one, other)
+                whole = exact_times(coefficients, one, other)
                 if any(one) and any(other) and max(map(abs, whole)) <= 100:
                     found = answered(ring(*coefficients), ideal(*one), ideal(*other), product(0, 1), ideal(*whole),
                                      told(2), told(3))
